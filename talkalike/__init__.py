@@ -1,0 +1,1 @@
+"""Talkalike: services that hand out ids, and whether any client can tell them apart."""

@@ -1,0 +1,39 @@
+"""The names and arguments that the document lists, in the files under which it lists them."""
+
+import importlib
+import inspect
+import unittest
+
+INTERFACE = {
+    "texts": ["is_text(value)", "compare_texts(first, second)", "number_of_text(text)", "text_of_number(number)",
+              "next_text(text)"],
+    "patterns": ["is_pattern(value)", "check_pattern(value)", "is_plain(pattern)", "matches(pattern, text)"],
+    "states": ["start_state(patterns)", "next_state(patterns, state, letter)", "state_of(patterns, text)",
+               "accepted(patterns, state)", "all_states(patterns)"],
+    "classes": ["class_of(patterns, text)", "all_classes(patterns)", "first_texts(patterns, wanted, count, but=())",
+                "first_text(patterns, wanted, but=())", "first_rows(patterns, count)", "check_patterns(patterns)"],
+    "values": ["is_id(value)", "is_value(value)", "value_key(value)", "compare_values(first, second)"],
+    "talks": ["is_name(value)", "check_kinds(kinds, registers=())", "kind_number(kinds, name)", "is_opening(request)",
+              "name_of(request)", "values_of(request)", "check_request(kinds, request, place=None)",
+              "check_talk(kinds, talk)", "compare_requests(kinds, first, second)", "compare_talks(kinds, first, second)",
+              "least_talk(kinds, talks)"],
+    "written": ["format_value(value)", "format_request(request)", "format_talk(talk)", "parse_value(text)",
+                "parse_request(line)", "parse_talk(text)"],
+    "conditions": ["check_condition(condition, names, registers)", "size_of(condition)", "holds(condition, meaning)",
+                   "normal(condition)", "patterns_in(condition)"],
+}
+
+
+class Interface(unittest.TestCase):
+
+    def test_functions(self):
+        for name, functions in INTERFACE.items():
+            module = importlib.import_module("talkalike." + name)
+            for line in functions:
+                function = getattr(module, line.partition("(")[0])
+                self.assertEqual(function.__name__ + str(inspect.signature(function)), line)
+                self.assertEqual(function.__module__, module.__name__)
+
+
+if __name__ == "__main__":
+    unittest.main()
