@@ -52,6 +52,14 @@ class AllClasses(TestCase):
         all_classes(["a"]).clear()
         self.assertEqual(all_classes(["a"]), [(False,), (True,)])
 
+    def test_arguments_stay(self):
+        patterns = ["?", "a", "*"]
+        all_classes(patterns)
+        class_of(patterns, "a")
+        first_rows(patterns, 2)
+        first_text(patterns, (True, True, True))
+        self.assertEqual(patterns, ["?", "a", "*"])
+
 
 class FirstTexts(TestCase):
 

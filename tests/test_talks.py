@@ -155,6 +155,19 @@ class Order(unittest.TestCase):
         self.assertEqual(compare_talks(KINDS, talk, list(talk)), 0)
 
 
+class Arguments(unittest.TestCase):
+
+    def test_arguments_stay(self):
+        kinds, first, second = list(KINDS), list(REQUESTS), list(reversed(REQUESTS))
+        check_talk(kinds, first)
+        check_request(kinds, first[0])
+        kind_number(kinds, "get")
+        compare_requests(kinds, first[0], second[0])
+        compare_talks(kinds, first, second)
+        least_talk(kinds, [first, second])
+        self.assertEqual((kinds, first, second), (KINDS, REQUESTS, REQUESTS[::-1]))
+
+
 class LeastTalk(unittest.TestCase):
 
     def test_no_talks(self):

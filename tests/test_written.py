@@ -87,6 +87,13 @@ class Talks(TestCase):
         self.assertEqual(parse_talk(text), talk)
         self.assertIs(type(parse_talk(text)), list)
 
+    def test_lists_are_new(self):
+        for text in ("", "new\n#0 get"):
+            found = parse_talk(text)
+            expected = list(found)
+            found.append("changed")
+            self.assertEqual(parse_talk(text), expected)
+
     def test_first_invalid_line(self):
         for line in NO_REQUESTS:
             if "\n" not in line:
