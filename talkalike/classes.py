@@ -37,9 +37,14 @@ def first_text(patterns, wanted, but=()):
 
 def first_rows(patterns, count):
     """Return, for each inhabited class in order, the list of its first texts: count of them, or all there are."""
+    return list(first_table(patterns, count).values())
+
+
+def first_table(patterns, count):
+    """Return a dict from each inhabited class, in order, to what first_rows returns for it."""
     states, steps = state_graph(patterns)
     classes = classes_of_states(patterns, states)
-    return [texts_of_class(classes, steps, wanted, count) for wanted in without_repeats(classes)]
+    return {wanted: texts_of_class(classes, steps, wanted, count) for wanted in without_repeats(classes)}
 
 
 def check_patterns(patterns):

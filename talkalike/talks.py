@@ -64,6 +64,14 @@ def values_of(request):
     return request[1:] if is_opening(request) else request[2:]
 
 
+def replaced(request, others):
+    """Return the request in which others, a dict, replaces values and the id of the object."""
+    values = [others.get(value, value) for value in values_of(request)]
+    if is_opening(request):
+        return ("new", *values)
+    return (others.get(request[0], request[0]), name_of(request), *values)
+
+
 def check_request(kinds, request, place=None):
     """Raise BadRequest with this place if the tuple is not a request of these kinds."""
     if not is_request(kinds, request):

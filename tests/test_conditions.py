@@ -2,7 +2,7 @@ import itertools
 import random
 import unittest
 
-from helper import TestCase, fits
+from helper import TestCase, holds_by_hand
 from talkalike.conditions import check_condition, holds, normal, patterns_in, size_of
 from talkalike.errors import BadCondition, BadPattern, UnknownName
 
@@ -44,21 +44,6 @@ def normal_by_hand(condition):
             return NEVER if form == ALWAYS else ALWAYS
         return form[1] if form[0] == "not" else ("not", form)
     return condition
-
-
-def holds_by_hand(condition, meaning):
-    word, rest = condition[0], condition[1:]
-    if word in ("and", "or"):
-        found = [holds_by_hand(part, meaning) for part in rest]
-        return all(found) if word == "and" else any(found)
-    if word == "not":
-        return not holds_by_hand(rest[0], meaning)
-    if word == "matches":
-        return type(meaning[rest[0]]) is str and fits(rest[1], meaning[rest[0]])
-    if word == "same":
-        first, second = meaning[rest[0]], meaning[rest[1]]
-        return first is not None and type(first) is type(second) and first == second
-    return meaning[rest[0]] is None if word == "empty" else word == "always"
 
 
 def some_conditions(count):

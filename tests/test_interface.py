@@ -21,6 +21,23 @@ INTERFACE = {
                 "parse_request(line)", "parse_talk(text)"],
     "conditions": ["check_condition(condition, names, registers)", "size_of(condition)", "holds(condition, meaning)",
                    "normal(condition)", "patterns_in(condition)"],
+    "rules": ["value_names(requests, name)", "check_rule(rule, stations, registers, requests)", "patterns_of_rule(rule)"],
+    "services": ["same_service(first, second)", "with_rules(service, rules)", "patterns_of(services)"],
+    "notation": ["format_service(service)", "parse_service(text)"],
+    "steps": ["new_object(service)", "rule_for(service, item, number, name, values)",
+              "step(service, item, number, name, values, given)", "opened(service, values, given)"],
+    "house": ["run_talk(service, talk)"],
+    "alone": ["alone(service, talk, number)"],
+    "exchange": ["exchange(service, talk, pairs)", "exchanged_answer(answer, pairs)"],
+    "pairs": ["check_pair(first, second, pair, place)", "kind_of(patterns, pair)", "alike(patterns, one, other)",
+              "example_of(patterns, pair)", "pair_key(first, second, pair)", "known_after(pair)"],
+    "moves": ["openings(first, second, patterns)", "requests_to(first, second, patterns, pair)",
+              "move(first, second, pair, request, given)"],
+}
+# For each class, its arguments, its methods, and its properties.
+CLASSES = {
+    "services": ("Service(stations, registers, requests, rules)", [], ["stations", "registers", "requests", "rules"]),
+    "house": ("House(service)", ["ask(self, request)", "object_of(self, number)", "objects(self)", "given(self)"], []),
 }
 
 
@@ -33,6 +50,18 @@ class Interface(unittest.TestCase):
                 function = getattr(module, line.partition("(")[0])
                 self.assertEqual(function.__name__ + str(inspect.signature(function)), line)
                 self.assertEqual(function.__module__, module.__name__)
+
+    def test_classes(self):
+        for name, (line, methods, properties) in CLASSES.items():
+            module = importlib.import_module("talkalike." + name)
+            kind = getattr(module, line.partition("(")[0])
+            self.assertEqual(kind.__name__ + str(inspect.signature(kind)), line)
+            self.assertEqual(kind.__module__, module.__name__)
+            for line in methods:
+                method = vars(kind)[line.partition("(")[0]]
+                self.assertEqual(method.__name__ + str(inspect.signature(method)), line)
+            for line in properties:
+                self.assertIsInstance(vars(kind)[line], property)
 
 
 if __name__ == "__main__":

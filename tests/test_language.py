@@ -14,6 +14,11 @@ BUILTINS = set("""
     IndexError LookupError ZeroDivisionError ArithmeticError OverflowError RuntimeError NotImplementedError
     AttributeError StopIteration NotImplemented
 """.split())
+METHODS = set("""
+    append clear copy count endswith extend find get index insert isalnum isalpha isdigit islower isspace isupper items
+    join keys ljust lower lstrip partition pop remove replace reverse rfind rjust rpartition rsplit rstrip setdefault
+    split splitlines startswith strip update upper values zfill bit_length removeprefix removesuffix add discard sort
+""".split())
 LIBRARY = {"heapq", "math", "itertools", "collections"}
 NEVER_NAMES = set("register mro elements open input law version_info with_traceback add_note".split())
 NO_NAMES = NEVER_NAMES | set("""
@@ -92,8 +97,28 @@ class Language(unittest.TestCase):
                 if isinstance(scope, ast.FunctionDef):
                     stored = stored_in(scope)
                     self.assertFalse(stored & (own | BUILTINS), (name, scope.name))
-                    read = {node.id for node in ast.walk(scope) if isinstance(node, ast.Name)}
+                    over = {node.id for node in scope.decorator_list}
+                    self.assertLessEqual(over, {"property"}, (name, scope.name))
+                    read = {node.id for body in scope.body for node in ast.walk(body) if isinstance(node, ast.Name)}
                     self.assertLessEqual(read - stored, own | BUILTINS, (name, scope.name))
+                    self.assertNotIn("_", {node.id for node in ast.walk(scope)
+                                           if isinstance(node, ast.Name) and isinstance(node.ctx, ast.Load)}, name)
+
+    def test_attributes(self):
+        methods, properties, assigned, read = set(), set(), set(), set()
+        for _, tree in trees():
+            for node in ast.walk(tree):
+                if isinstance(node, ast.ClassDef):
+                    for method in node.body:
+                        if isinstance(method, ast.FunctionDef):
+                            (properties if method.decorator_list else methods).add(method.name)
+                elif isinstance(node, ast.Attribute):
+                    (read if isinstance(node.ctx, ast.Load) else assigned).add(node.attr)
+        # A name is a method, a property or an attribute throughout the package, and each attribute that is read exists.
+        self.assertEqual(methods & assigned, set())
+        self.assertEqual(properties & (methods | assigned), set())
+        self.assertLessEqual(read, methods | properties | assigned | METHODS)
+        self.assertEqual((properties | assigned) & METHODS, set())
 
     def test_values_and_statements(self):
         barred = (ast.Global, ast.AsyncFunctionDef, ast.Await, ast.Div, ast.MatMult)
