@@ -1,6 +1,7 @@
 """The classes of texts for a list of patterns, and the first texts of each class."""
 
 from talkalike.errors import TooManyClasses, TooManyPatterns
+from talkalike.lists import without_repeats
 from talkalike.patterns import is_plain, matches
 from talkalike.states import accepted, state_graph
 from talkalike.texts import LETTERS
@@ -59,14 +60,6 @@ def check_patterns(patterns):
 def classes_of_states(patterns, states):
     """Return the list of the classes of the texts that have these states, one for each state."""
     return [accepted(patterns, state) for state in states]
-
-
-def without_repeats(classes):
-    """Return the list of the different classes, each where it first stands."""
-    found = {}
-    for one in classes:
-        found[one] = True
-    return list(found)
 
 
 def texts_of_class(classes, steps, wanted, count):

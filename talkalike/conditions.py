@@ -58,6 +58,11 @@ def size_of(condition):
     return 1 + sum([size_of(part) for part in parts_of(condition)])
 
 
+def depth_of(condition):
+    """Return the depth of a condition: 1 if it has no parts, otherwise 1 more than the greatest depth of them."""
+    return 1 + max([depth_of(part) for part in parts_of(condition)], default=0)
+
+
 def holds(condition, meaning):
     """Return True if the condition holds for the meaning of names, otherwise False."""
     word = condition[0]
@@ -129,4 +134,17 @@ def patterns_in(condition):
     found = []
     for part in parts_of(condition):
         found.extend(patterns_in(part))
+    return found
+
+
+def names_in(condition):
+    """Return the list of the names of the condition in the order of reading, duplicates included."""
+    word = condition[0]
+    if word in ("matches", "empty"):
+        return [condition[1]]
+    if word == "same":
+        return list(condition[1:])
+    found = []
+    for part in parts_of(condition):
+        found.extend(names_in(part))
     return found

@@ -12,33 +12,36 @@ MOST_FIRST_TEXTS = 9
 
 def openings(first, second, patterns):
     """Return the list of the openings that matter for the two services, in the order of requests."""
-    return openings_with(first_rows(patterns, MOST_FIRST_TEXTS), first.requests)
-
-
-def openings_with(rows, kinds):
-    """Return the list of the openings that matter; rows has the first texts of each class."""
-    return [("new", *values) for values in values_that_matter(rows, [], len(kinds[0]) - 1)]
+    return requests_of_kind(first_rows(patterns, MOST_FIRST_TEXTS), first.requests[0], None)
 
 
 def requests_to(first, second, patterns, pair):
     """Return the list of the requests that matter for the pair, in the order of requests."""
-    return requests_with(first_rows(patterns, MOST_FIRST_TEXTS), first.requests, pair)
-
-
-def requests_with(rows, kinds, pair):
-    """Return the list of the requests that matter for the pair; rows has the first texts of each class."""
-    known = [0] + values_held(pair)
+    rows = first_rows(patterns, MOST_FIRST_TEXTS)
     found = []
-    for kind in kinds[1:]:
-        found.extend([(0, kind[0], *values) for values in values_that_matter(rows, known, len(kind) - 1)])
+    for kind in first.requests[1:]:
+        found.extend(requests_of_kind(rows, kind, pair))
     return found
 
 
-def values_that_matter(rows, known, count):
-    """Return the list of the tuples of count values that matter, in order; known are those that always do."""
+def requests_of_kind(rows, kind, pair, unnamed=()):
+    """Return, in order, the list of the requests of this kind that matter for the pair, None if they open it.
+
+    rows has the first texts of each class. A value that is unnamed gets the first of all texts
+    alone: that text always matters.
+    """
+    head, known = (("new",), []) if pair is None else ((0, kind[0]), [0] + values_held(pair))
+    return [(*head, *values) for values in values_that_matter(rows, known, kind[1:], unnamed)]
+
+
+def values_that_matter(rows, known, names, unnamed=()):
+    """Return the list of the tuples of values that matter for these names, in order; known always matter."""
     found = [()]
-    for _ in range(count):
-        found = [(*ahead, value) for ahead in found for value in values_behind(rows, [*known, *ahead])]
+    for name in names:
+        if name in unnamed:
+            found = [(*ahead, "") for ahead in found]
+        else:
+            found = [(*ahead, value) for ahead in found for value in values_behind(rows, [*known, *ahead])]
     return found
 
 

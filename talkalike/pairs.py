@@ -126,4 +126,4 @@ def classes_held(patterns, pair):
 
 def values_held(pair):
     """Return the list of the texts and the known ids that the pair holds, duplicates included."""
-    return [value for _, held in pair for value in held if is_value(value)]
+    return [value for _, held in pair for value in held if value is not None and not is_own(value)]

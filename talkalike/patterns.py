@@ -48,6 +48,8 @@ def next_lengths(pattern, lengths, letter):
 
 def matches(pattern, text):
     """Return True if the pattern matches the text, otherwise False."""
+    if is_plain(pattern):
+        return pattern == text
     lengths = start_lengths(pattern)
     for letter in text:
         lengths = next_lengths(pattern, lengths, letter)

@@ -1,6 +1,6 @@
 """Rules: how they are checked, and their patterns."""
 
-from talkalike.conditions import check_condition, check_known, patterns_in
+from talkalike.conditions import check_condition, check_known, names_in, patterns_in
 from talkalike.errors import BadName, BadRule, BadSource, UnknownRequest, UnknownStation
 from talkalike.talks import is_name, kind_number
 from talkalike.texts import is_text
@@ -95,3 +95,9 @@ def patterns_of_rule(rule):
 def texts_told(lines):
     """Return the list of the texts of sources or of lines of a turn, in order."""
     return [line[1] for line in lines if line[0] == "text"]
+
+
+def names_of_rule(rule):
+    """Return the list of the names that a rule names, duplicates included."""
+    condition, answer, turn = rule[2:5]
+    return names_in(condition) + [line[1] for line in [*answer[1:], *turn] if line[0] == "value"]

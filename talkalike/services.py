@@ -1,6 +1,7 @@
 """Services, which are given as data: stations, registers, kinds of requests, and rules."""
 
 from talkalike.errors import BadCount, BadName, DuplicateName
+from talkalike.lists import without_repeats
 from talkalike.rules import check_rule, patterns_of_rule
 from talkalike.talks import check_kinds, is_name
 
@@ -101,9 +102,5 @@ def with_rules(service, rules):
 
 def patterns_of(services):
     """Return the list of the different patterns of the services, in the order of first occurrence."""
-    found = {}
-    for service in services:
-        for rule in service.rules:
-            for pattern in patterns_of_rule(rule):
-                found[pattern] = True
-    return list(found)
+    return without_repeats([pattern for service in services for rule in service.rules
+                            for pattern in patterns_of_rule(rule)])

@@ -1,6 +1,7 @@
 """Objects, the rules that they take, and the steps that they do."""
 
 from talkalike.conditions import holds
+from talkalike.lists import without_repeats
 
 
 def new_object(service):
@@ -76,16 +77,12 @@ def is_own(value):
 
 def own_ids(values):
     """Return the list of the different own ids among the values, in the order in which they first stand there."""
-    found = {}
-    for value in values:
-        if is_own(value):
-            found[value] = True
-    return list(found)
+    return without_repeats([value for value in values if is_own(value)])
 
 
 def least_fresh(held):
     """Return the least number that is greater than those of all own ids that the registers hold."""
-    return max([own[1] for own in own_ids(held)], default=-1) + 1
+    return max([value[1] for value in held if is_own(value)], default=-1) + 1
 
 
 def with_own_anew(held):

@@ -145,6 +145,78 @@ def run_by_hand(service, talk):
     return [house.ask(request) for request in talk]
 
 
+def requests_by_hand(kinds, texts, given):
+    """All requests with these texts, two made-up ids and the ids that were given, in the order of requests."""
+    values = sorted(texts, key=lambda text: (len(text), text)) + [-1, -2] + list(range(given))
+    for kind in kinds:
+        for number in [None] if kind[0] == "new" else [-1] + list(range(given)):
+            for row in itertools.product(values, repeat=len(kind) - 1):
+                yield (("new",) if number is None else (number, kind[0])) + row
+
+
+def houses_by_hand(first, second, talk, moment=0, change=None):
+    """A house of each service behind the talk; the second one is made from one of the first behind moment requests."""
+    house, other = HandHouse(first), HandHouse(first if moment else second)
+    for index, request in enumerate(talk):
+        if moment and index == moment:
+            other = change(other)
+        house.ask(request)
+        other.ask(request)
+    return house, change(other) if moment and moment == len(talk) else other
+
+
+def first_by_hand(first, second, texts, most, ends, moment=0, change=None):
+    """The first talk, of at most most requests, whose last one ends, with both answers to it.
+
+    Only these texts are used. ends is asked for a request, the count of ids given before it, and the two
+    answers; all requests before the last one have the same answers. Talks with a request that both refuse
+    are left out, since they are as good without it. For moment and change see houses_by_hand: the last
+    request comes behind the change.
+    """
+    talks = [[]]
+    for length in range(1, most + 1):
+        longer = []
+        for talk in talks:
+            given = houses_by_hand(first, second, talk, moment, change)[0].given
+            for request in requests_by_hand(first.requests, texts, given):
+                house, other = houses_by_hand(first, second, talk, moment, change)
+                answers = house.ask(request), other.ask(request)
+                if length > moment and ends(request, given, *answers):
+                    return talk + [request], answers[0], answers[1]
+                if answers[0] == answers[1] is not None:
+                    longer.append(talk + [request])
+        talks = longer
+    return None
+
+
+def texts_of_talk(talk):
+    """The texts among the values of the requests."""
+    return {value for request in talk for value in request[1 if request[0] == "new" else 2:] if isinstance(value, str)}
+
+
+def thousand(more=False):
+    """A service with three registers that hold nothing or one of nine texts: 1000 kinds, with more 1001.
+
+    Whatever is held, the request "ask" is answered at once.
+    """
+    kinds = [("new",), ("ask",), ("one", "key"), ("two", "key"), ("three", "key"), ("end",)]
+    told = ("or",) + tuple(("matches", "key", letter) for letter in "abcdefghi")
+    rules = [(None, "new", ALWAYS, ("ok",), (CLEAR,) * 3, "on"), ("on", "ask", ALWAYS, ("yes",), (KEEP,) * 3, "on")]
+    for index, name in enumerate(["one", "two", "three"]):
+        turn = tuple(("value", "key") if index == at else KEEP for at in range(3))
+        rules.append(("on", name, told, ("ok",), turn, "on"))
+    end = ("on", "end", ALWAYS, ("ok",), (CLEAR,) * 3, "off" if more else "on")
+    return Service(["on", "off"], ["left", "mid", "right"], kinds, rules + [end])
+
+
+def with_rule(service, index, **parts):
+    """The service with other parts of one rule."""
+    names = ["station", "request", "condition", "answer", "turn", "next"]
+    rules = service.rules
+    rules[index] = tuple(parts.get(name, old) for name, old in zip(names, rules[index]))
+    return Service(service.stations, service.registers, service.requests, rules)
+
+
 class Dice:
     """Rolls services and talks, the same ones for the same seed."""
 
@@ -188,6 +260,24 @@ class Dice:
         rules = [opening[:2] + (self.dice.choice([ALWAYS, ALWAYS, ALWAYS, opening[2]]),) + opening[3:]]
         for _ in range(self.dice.randint(0, 7)):
             rules.append(self.rule(stations, registers, self.dice.choice(kinds)))
+        return Service(stations, registers, kinds, rules)
+
+    def small(self, most_registers=2):
+        """A service with few values, so that its small talks can be tried, whose objects change at most requests."""
+        stations = ["open", "closed"]
+        registers = ["owner", "token"][:self.dice.randint(1, most_registers)]
+        kinds = [self.dice.choice([("new",), ("new",), ("new", "name")]), ("put", "key"), ("get",)]
+        opening = self.rule(stations, registers, kinds[0])
+        rules = [opening[:2] + (ALWAYS,) + opening[3:]]
+        for kind in kinds[1:]:
+            for station in stations:
+                for _ in range(self.dice.choice([0, 1, 1, 2, 2, 3])):
+                    _, name, condition, _, turn, behind = self.rule(stations, registers, kind)
+                    names = registers + list(kind[1:]) + ["self"]
+                    answer = (self.dice.choice(["ok", "no"]),)
+                    answer += tuple(self.source(names) for _ in range(self.dice.choice([0, 0, 0, 1, 2])))
+                    condition = self.dice.choice([condition, condition, ALWAYS])
+                    rules.append((station, name, condition, answer, turn, behind))
         return Service(stations, registers, kinds, rules)
 
     def other(self, service):

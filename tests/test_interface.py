@@ -33,6 +33,11 @@ INTERFACE = {
               "example_of(patterns, pair)", "pair_key(first, second, pair)", "known_after(pair)"],
     "moves": ["openings(first, second, patterns)", "requests_to(first, second, patterns, pair)",
               "move(first, second, pair, request, given)"],
+    "reach": ["reach(first, second, extra=())"],
+    "search": ["first_talk(first, second, ends, extra=())"],
+    "difference": ["difference(first, second)"],
+    "serves": ["serves(first, second)"],
+    "papers": ["paper(first, second)", "judge(first, second, pairs)"],
 }
 # For each class, its arguments, its methods, and its properties.
 CLASSES = {

@@ -93,7 +93,9 @@ class Language(unittest.TestCase):
                 for word in words_of(node):
                     self.assertNotIn(word, NEVER_NAMES if isinstance(node, ast.Attribute) else NO_NAMES, name)
                     self.assertRegex(word, r"\A(_|_?[A-Za-z][A-Za-z0-9_]*|__[a-z]+__)\Z")
-            for scope in ast.walk(tree):
+            methods = [node for scope in tree.body if isinstance(scope, ast.ClassDef) for node in scope.body]
+            for scope in tree.body + methods:
+                # What is nested in a function is read with it.
                 if isinstance(scope, ast.FunctionDef):
                     stored = stored_in(scope)
                     self.assertFalse(stored & (own | BUILTINS), (name, scope.name))
