@@ -38,6 +38,11 @@ INTERFACE = {
     "difference": ["difference(first, second)"],
     "serves": ["serves(first, second)"],
     "papers": ["paper(first, second)", "judge(first, second, pairs)"],
+    "idle": ["idle_rules(service)", "core(service)", "forgetting(service, spots)", "can_forget(service, spots)", "forgettable(service)"],
+    "goals": ["check_goal(goal)", "patterns_of_goal(goal)", "meets(goal, request, given, answer)"],
+    "saying": ["saying(service, goal)"],
+    "suites": ["changes_of(service)", "changed(service, change)", "part_in(first, second, talk)", "suite_of(service)"],
+    "live": ["check_carry(first, second, carry)", "carried(first, carry, item, number)", "live(first, second, carry)"],
 }
 # For each class, its arguments, its methods, and its properties.
 CLASSES = {
