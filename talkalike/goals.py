@@ -3,7 +3,7 @@
 from talkalike.errors import BadGoal
 from talkalike.patterns import is_pattern, matches
 from talkalike.talks import is_name, values_of
-from talkalike.values import is_id, is_value
+from talkalike.values import is_id
 
 MOST_GOALS = 20
 MOST_DEPTH = 6
@@ -94,7 +94,7 @@ def is_like(goal, value, asked, given):
     if word == "matches":
         return isinstance(value, str) and matches(goal[2], value)
     if word == "asked":
-        return is_value(value) and value in asked
+        return value in asked
     if word == "new":
         return is_id(value) and value >= given
     return value is None
